@@ -1,0 +1,25 @@
+package quorum
+
+import "quorum/api"
+
+func soundNodes(id, n int) bool {
+	return n >= 1 && n <= api.MaxNodes && id >= 0 && id < n
+}
+
+func soundSaved(saved api.Saved, n int) bool {
+	return saved.Term >= 0 && saved.Term <= api.MaxTerm &&
+		saved.Vote >= none && saved.Vote < n &&
+		len(saved.Log) <= api.MaxLog &&
+		soundEntries(saved.Log, 1, saved.Term)
+}
+
+// soundEntries asks for terms from least to most that do not fall, and for commands that may be.
+func soundEntries(entries []api.Entry, least, most int) bool {
+	for _, e := range entries {
+		if e.Term < least || e.Term > most || len(e.Command) > api.MaxCommand {
+			return false
+		}
+		least = e.Term
+	}
+	return true
+}
