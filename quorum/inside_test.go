@@ -101,10 +101,79 @@ func TestP2CommittedAnswersNewMemory(t *testing.T) {
 	}
 }
 
+// No call leads to this state: a leader is known only from the term 1 on.
+func TestP5AnAskReplyOfTheTermZeroIsNotSent(t *testing.T) {
+	r := openNode(t, 0, 3)
+	r.leads = 1
+	if l := r.Step(api.Message{Kind: api.Ask, From: 2, Term: 1}); len(l) > 0 {
+		t.Errorf("sent %+v", l)
+	}
+}
+
+func TestP6ToLeadForgetsWhatWasKeptOfTheOthers(t *testing.T) {
+	r := openNode(t, 1, 3)
+	r.log = []api.Entry{{Term: 1}, {Term: 1}}
+	r.term = 2
+	r.next, r.match, r.heard = [7]int{3, 3, 3}, [7]int{1, 2, 3}, nodeSet{true, false, true}
+	r.lead()
+	if r.next != [7]int{3, 3, 3} || r.match != [7]int{0, 3, 0} || r.heard != (nodeSet{}) || r.commit != 0 {
+		t.Errorf("next %v, match %v, heard %v, commit %d", r.next, r.match, r.heard, r.commit)
+	}
+}
+
+func TestP6CountTakesTheGreatestOfItsTermThatAMajorityHas(t *testing.T) {
+	for _, c := range []struct {
+		match        []int
+		commit, want int
+	}{
+		{[]int{6, 0, 0}, 0, 0}, {[]int{6, 3, 0}, 0, 0}, {[]int{6, 4, 0}, 0, 4}, {[]int{6, 0, 5}, 0, 5}, {[]int{6, 6, 6}, 0, 6},
+		{[]int{6, 4, 0}, 5, 5}, {[]int{6, 5, 0}, 5, 5}, {[]int{6, 6, 0}, 5, 6}, {[]int{6, 3, 3}, 1, 1},
+		{[]int{6, 6}, 2, 6}, {[]int{6, 5}, 2, 5}, {[]int{6, 0}, 2, 2}, {[]int{6}, 0, 6},
+		{[]int{6, 6, 5, 0}, 0, 5}, {[]int{6, 6, 0, 0}, 0, 0}, {[]int{6, 0, 4, 5, 0}, 0, 4}, {[]int{6, 6, 6, 5, 5, 4, 4}, 0, 5},
+	} {
+		r := openNode(t, 0, len(c.match))
+		r.term, r.commit = 3, c.commit
+		for _, term := range []int{1, 2, 2, 3, 3, 3} {
+			r.log = append(r.log, api.Entry{Term: term})
+		}
+		copy(r.match[:], c.match)
+		r.count()
+		if r.commit != c.want {
+			t.Errorf("match %v: the commit goes from %d to %d, want %d", c.match, c.commit, r.commit, c.want)
+		}
+	}
+}
+
+// A node's next is set here, as it only goes back by replies.
+func TestP6AnAppendHasTheFirstFewThatAreMissing(t *testing.T) {
+	r := openNode(t, 0, 3)
+	r.role, r.leads, r.term, r.commit = api.Leader, 0, 7, 2
+	for i := range 5 {
+		r.log = append(r.log, api.Entry{Term: i + 1, Command: strconv.Itoa(i)})
+	}
+	for next, entries := range map[int][]api.Entry{1: r.log[:3], 2: r.log[1:4], 3: r.log[2:], 5: r.log[4:], 6: nil} {
+		r.next[1], r.next[2] = next, 6
+		l := r.Tick()
+		r.elapsed = 0
+		if len(l) != 2 {
+			t.Fatalf("sent %+v", l)
+		}
+		m := l[0]
+		if m.Kind != api.Append || m.From != 0 || m.To != 1 || m.Term != 7 || m.Index != next-1 || m.LogTerm != next-1 || m.Commit != 2 || m.Granted || !slices.Equal(m.Entries, entries) {
+			t.Errorf("next %d: sent %+v", next, m)
+		}
+		if m = l[1]; m.To != 2 || m.Index != 5 || m.LogTerm != 5 || len(m.Entries) > 0 {
+			t.Errorf("next 6: sent %+v", m)
+		}
+	}
+}
+
 // The pause can only let a call that takes no lock slip through unseen; it cannot fail one that takes it.
 func TestCallsWaitForTheNodesLock(t *testing.T) {
 	for name, call := range map[string]func(*Node){
 		"Patience":  func(r *Node) { r.Patience(5) },
+		"Tick":      func(r *Node) { r.Tick() },
+		"Step":      func(r *Node) { r.Step(api.Message{Kind: api.Vote, From: 1, Term: 1}) },
 		"Saved":     func(r *Node) { r.Saved() },
 		"Status":    func(r *Node) { r.Status() },
 		"Committed": func(r *Node) { r.Committed() },
@@ -133,6 +202,10 @@ func TestANodeMayBeAskedBySeveralAtOnce(t *testing.T) {
 		all.Go(func() {
 			r.Patience(ticks)
 			r.Patience(0)
+			r.Tick()
+			for kind := api.Ask; kind <= api.AppendReply; kind++ {
+				r.Step(api.Message{Kind: kind, From: 1 + ticks%2, Term: ticks, Granted: true})
+			}
 			r.Saved()
 			r.Status()
 			r.Committed()

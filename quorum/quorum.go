@@ -26,7 +26,13 @@ type Node struct {
 	role     int
 	leads    int
 	commit   int
+	elapsed  int
 	patience int
+	grants   nodeSet
+
+	// Of each node, and of use only while this one leads: lead sets them anew.
+	next, match [api.MaxNodes]int
+	heard       nodeSet
 }
 
 // Open makes a node (P3).
@@ -66,10 +72,41 @@ func (r *Node) Patience(ticks int) api.Errno {
 }
 
 // Tick tells a node that its clock has gone on (P5).
-func (r *Node) Tick() []api.Message { return nil }
+func (r *Node) Tick() []api.Message {
+	r.mu.Lock()
+	defer r.mu.Unlock()
+	r.elapsed++
+	if r.role == api.Leader {
+		return r.tickLeader()
+	}
+	if r.elapsed < r.patience || r.term >= api.MaxTerm {
+		return nil
+	}
+	return r.ask()
+}
 
 // Step tells a node of a message (P5, P6).
-func (r *Node) Step(m api.Message) []api.Message { return nil }
+func (r *Node) Step(m api.Message) []api.Message {
+	r.mu.Lock()
+	defer r.mu.Unlock()
+	if !soundMessage(m, r.id, r.n) {
+		return nil
+	}
+	switch m.Kind {
+	case api.Ask:
+		return r.stepAsk(m)
+	case api.AskReply:
+		return r.stepAskReply(m)
+	case api.Vote:
+		return r.stepVote(m)
+	case api.VoteReply:
+		return r.stepVoteReply(m)
+	case api.Append:
+		return r.stepAppend(m)
+	default:
+		return r.stepAppendReply(m)
+	}
+}
 
 // Propose asks a leader to put a command into the log (P6).
 func (r *Node) Propose(command string) (int, []api.Message, api.Errno) { return 0, nil, api.OK }

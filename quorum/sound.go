@@ -13,6 +13,24 @@ func soundSaved(saved api.Saved, n int) bool {
 		soundEntries(saved.Log, 1, saved.Term)
 }
 
+func soundMessage(m api.Message, id, n int) bool {
+	return m.Kind >= api.Ask && m.Kind <= api.AppendReply &&
+		m.To == id && m.From != id && soundNodes(m.From, n) &&
+		m.Term >= 1 && m.Term <= api.MaxTerm &&
+		soundNumbers(m.Index, m.LogTerm, m.Commit) &&
+		len(m.Entries) <= api.MaxSend &&
+		soundEntries(m.Entries, max(1, m.LogTerm), m.Term)
+}
+
+func soundNumbers(numbers ...int) bool {
+	for _, number := range numbers {
+		if number < 0 || number > api.MaxTerm {
+			return false
+		}
+	}
+	return true
+}
+
 // soundEntries asks for terms from least to most that do not fall, and for commands that may be.
 func soundEntries(entries []api.Entry, least, most int) bool {
 	for _, e := range entries {
