@@ -3,6 +3,7 @@ package quorum_test
 import (
 	"math/rand"
 	"reflect"
+	"strings"
 	"testing"
 
 	"quorum/api"
@@ -49,7 +50,25 @@ func checkSane(t *testing.T, id, n int, r *quorum.Node, before api.Status, commi
 	}
 }
 
-func TestP1AnyMessagesAreTaken(t *testing.T) {
+func anyCommand(random *rand.Rand) string {
+	return strings.Repeat(string(rune('a'+random.Intn(3))), pick(random, 0, 1, 2, 20, 21))
+}
+
+// checkProposed asks that two nodes which were told the same answer the same, and with an error nothing else.
+func checkProposed(t *testing.T, r, twin *quorum.Node, command string) {
+	t.Helper()
+	number, sent, e := r.Propose(command)
+	twinNumber, twinSent, twinErrno := twin.Propose(command)
+	checkSent(t, sent, twinSent...)
+	if number != twinNumber || e != twinErrno {
+		t.Errorf("Propose(%q) = %d, %d and %d, %d", command, number, e, twinNumber, twinErrno)
+	}
+	if last := r.Status().Last; e == api.OK && number != last || e != api.OK && (number != 0 || sent != nil) {
+		t.Errorf("Propose(%q) = %d, %+v, %d with the last %d", command, number, sent, e, last)
+	}
+}
+
+func TestP1AnyCallsAreTaken(t *testing.T) {
 	random := rand.New(rand.NewSource(5))
 	for range 400 {
 		n := 1 + random.Intn(api.MaxNodes)
@@ -59,9 +78,12 @@ func TestP1AnyMessagesAreTaken(t *testing.T) {
 		twin.Patience(3)
 		for range 60 {
 			before, committed := r.Status(), r.Committed()
-			if random.Intn(3) == 0 {
+			switch random.Intn(10) {
+			case 0, 1, 2:
 				checkSent(t, r.Tick(), twin.Tick()...)
-			} else {
+			case 3:
+				checkProposed(t, r, twin, anyCommand(random))
+			default:
 				m := anyMessage(random, n)
 				checkSent(t, r.Step(m), twin.Step(m)...)
 			}
@@ -69,75 +91,6 @@ func TestP1AnyMessagesAreTaken(t *testing.T) {
 		}
 		if !reflect.DeepEqual(r.Saved(), twin.Saved()) || r.Status() != twin.Status() {
 			t.Errorf("told the same, one is %+v, the other %+v", r.Status(), twin.Status())
-		}
-	}
-}
-
-// Messages are told late, twice or never, and nodes stop and start again.
-func TestP5NoTwoLeadInOneTerm(t *testing.T) {
-	random := rand.New(rand.NewSource(11))
-	elections := 0
-	for range 150 {
-		n := 2 + random.Intn(api.MaxNodes-1)
-		leads := map[int]int{}
-		var nodes []*quorum.Node
-		for id := range n {
-			nodes = append(nodes, mustOpen(t, id, n))
-			nodes[id].Patience(2 + random.Intn(8))
-		}
-		var mail []api.Message
-		for range 400 {
-			id := random.Intn(n)
-			switch what := random.Intn(40); {
-			case what == 0:
-				nodes[id] = mustRestart(t, id, n, nodes[id].Saved())
-			case what < 8 || len(mail) == 0:
-				mail = append(mail, nodes[id].Tick()...)
-			default:
-				at := random.Intn(len(mail))
-				id = mail[at].To
-				told := nodes[id].Step(mail[at])
-				if random.Intn(5) > 0 {
-					mail = append(mail[:at], mail[at+1:]...)
-				}
-				mail = append(mail, told...)
-			}
-			s := nodes[id].Status()
-			if s.Role != api.Leader {
-				continue
-			}
-			if other, ok := leads[s.Term]; ok && other != id {
-				t.Fatalf("nodes %d and %d lead in the term %d", other, id, s.Term)
-			}
-			leads[s.Term] = id
-		}
-		elections += len(leads)
-	}
-	if elections < 100 {
-		t.Errorf("only %d elections were won", elections)
-	}
-}
-
-func TestP5OneLeadsInTimeIfPatiencesDiffer(t *testing.T) {
-	for n := 1; n <= api.MaxNodes; n++ {
-		var nodes []*quorum.Node
-		for id := range n {
-			nodes = append(nodes, mustOpen(t, id, n))
-			nodes[id].Patience(5 + 5*((id+3)%n))
-		}
-		for range 200 {
-			for _, r := range nodes {
-				for mail := r.Tick(); len(mail) > 0; mail = mail[1:] {
-					mail = append(mail, nodes[mail[0].To].Step(mail[0])...)
-				}
-			}
-		}
-		leader := nodes[0].Status().Leads
-		for id, r := range nodes {
-			s := r.Status()
-			if s.Leads != leader || leader < 0 || s.Term != 1 || (s.Role == api.Leader) != (id == leader) {
-				t.Errorf("%d nodes: node %d: %+v", n, id, s)
-			}
 		}
 	}
 }

@@ -144,7 +144,6 @@ func TestP6CountTakesTheGreatestOfItsTermThatAMajorityHas(t *testing.T) {
 	}
 }
 
-// A node's next is set here, as it only goes back by replies.
 func TestP6AnAppendHasTheFirstFewThatAreMissing(t *testing.T) {
 	r := openNode(t, 0, 3)
 	r.role, r.leads, r.term, r.commit = api.Leader, 0, 7, 2
@@ -174,6 +173,7 @@ func TestCallsWaitForTheNodesLock(t *testing.T) {
 		"Patience":  func(r *Node) { r.Patience(5) },
 		"Tick":      func(r *Node) { r.Tick() },
 		"Step":      func(r *Node) { r.Step(api.Message{Kind: api.Vote, From: 1, Term: 1}) },
+		"Propose":   func(r *Node) { r.Propose("a") },
 		"Saved":     func(r *Node) { r.Saved() },
 		"Status":    func(r *Node) { r.Status() },
 		"Committed": func(r *Node) { r.Committed() },
@@ -206,6 +206,7 @@ func TestANodeMayBeAskedBySeveralAtOnce(t *testing.T) {
 			for kind := api.Ask; kind <= api.AppendReply; kind++ {
 				r.Step(api.Message{Kind: kind, From: 1 + ticks%2, Term: ticks, Granted: true})
 			}
+			r.Propose("a")
 			r.Saved()
 			r.Status()
 			r.Committed()
@@ -214,5 +215,29 @@ func TestANodeMayBeAskedBySeveralAtOnce(t *testing.T) {
 	all.Wait()
 	if r.patience < 1 || r.patience > api.MaxTicks {
 		t.Errorf("the patience is %d", r.patience)
+	}
+}
+
+func TestALeaderMayBeProposedToBySeveralAtOnce(t *testing.T) {
+	r := openNode(t, 0, 1)
+	r.Patience(1)
+	r.Tick()
+	numbers := make([]int, 2*api.MaxLog)
+	var all sync.WaitGroup
+	for i := range numbers {
+		all.Go(func() { numbers[i], _, _ = r.Propose("c" + strconv.Itoa(i)) })
+	}
+	all.Wait()
+	log := r.Saved().Log
+	if len(log) != api.MaxLog || r.Status().Commit != api.MaxLog {
+		t.Fatalf("%+v", r.Status())
+	}
+	for i, number := range numbers {
+		if number > 0 && log[number-1].Command != "c"+strconv.Itoa(i) {
+			t.Errorf("the entry %d is %+v, but was told to be c%d", number, log[number-1], i)
+		}
+	}
+	if taken := slices.DeleteFunc(numbers, func(number int) bool { return number == 0 }); len(taken) != api.MaxLog-1 {
+		t.Errorf("%d were taken", len(taken))
 	}
 }

@@ -1,9 +1,17 @@
 package quorum
 
-import "quorum/api"
+import (
+	"strings"
+
+	"quorum/api"
+)
 
 func (r *Node) last() int {
 	return len(r.log)
+}
+
+func (r *Node) isFull() bool {
+	return r.last() >= api.MaxLog
 }
 
 func (r *Node) termOf(number int) int {
@@ -19,40 +27,9 @@ func (r *Node) isAsGood(m api.Message) bool {
 	return m.LogTerm > own || m.LogTerm == own && m.Index >= r.last()
 }
 
-func (r *Node) lead() []api.Message {
-	r.role = api.Leader
-	r.leads = r.id
-	r.elapsed = 0
-	r.heard = nodeSet{}
-	for id := range r.n {
-		r.next[id] = r.last() + 1
-		r.match[id] = 0
-	}
-	// What earlier terms left behind is committed only below an entry of this one.
-	if r.last() < api.MaxLog {
-		r.log = append(r.log, api.Entry{Term: r.term})
-	}
-	r.match[r.id] = r.last()
-	r.count()
-	return r.sendAppends(r.others()...)
-}
-
-// count stops at the first entry of an earlier term, as terms do not fall: below it stand no more of its own.
-func (r *Node) count() {
-search:
-	for number := r.last(); number > r.commit && r.termOf(number) == r.term; number-- {
-		have := 0
-		for id := range r.n {
-			if r.match[id] < number {
-				continue
-			}
-			have++
-			if r.isMajority(have) {
-				r.commit = number
-				break search
-			}
-		}
-	}
+// put makes the command anew, so that none that was handed in is kept.
+func (r *Node) put(command string) {
+	r.log = append(r.log, api.Entry{Term: r.term, Command: strings.Clone(command)})
 }
 
 func (r *Node) stepAppend(m api.Message) []api.Message {
@@ -95,15 +72,4 @@ func (r *Node) take(m api.Message) {
 			return
 		}
 	}
-}
-
-// stepAppendReply does as much as elections need: a leader that is heard of stays one.
-func (r *Node) stepAppendReply(m api.Message) []api.Message {
-	if m.Term > r.term {
-		r.follow(m.Term, none)
-	}
-	if r.role == api.Leader && m.Term == r.term {
-		r.heard = r.heard.with(m.From)
-	}
-	return nil
 }

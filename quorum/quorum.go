@@ -109,7 +109,21 @@ func (r *Node) Step(m api.Message) []api.Message {
 }
 
 // Propose asks a leader to put a command into the log (P6).
-func (r *Node) Propose(command string) (int, []api.Message, api.Errno) { return 0, nil, api.OK }
+func (r *Node) Propose(command string) (int, []api.Message, api.Errno) {
+	if command == "" || !soundCommand(command) {
+		return 0, nil, api.ErrCommand
+	}
+	r.mu.Lock()
+	defer r.mu.Unlock()
+	if r.role != api.Leader {
+		return 0, nil, api.ErrRole
+	}
+	if r.isFull() {
+		return 0, nil, api.ErrFull
+	}
+	r.put(command)
+	return r.last(), r.spread(), api.OK
+}
 
 // Saved tells what must not be lost (P4).
 func (r *Node) Saved() api.Saved {

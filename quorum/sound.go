@@ -34,10 +34,14 @@ func soundNumbers(numbers ...int) bool {
 // soundEntries asks for terms from least to most that do not fall, and for commands that may be.
 func soundEntries(entries []api.Entry, least, most int) bool {
 	for _, e := range entries {
-		if e.Term < least || e.Term > most || len(e.Command) > api.MaxCommand {
+		if e.Term < least || e.Term > most || !soundCommand(e.Command) {
 			return false
 		}
 		least = e.Term
 	}
 	return true
+}
+
+func soundCommand(command string) bool {
+	return len(command) <= api.MaxCommand
 }
